@@ -1,0 +1,1 @@
+"""Whichwalks: which readings of a path question agree."""

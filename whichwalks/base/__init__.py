@@ -1,0 +1,1 @@
+"""Names, schemas and words."""
