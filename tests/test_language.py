@@ -18,7 +18,7 @@ BUILTINS = set(
 )
 METHODS = set(
     "init eq repr str len enter exit call iter lt le gt ge ne add sub mul floordiv mod pow and or xor lshift rshift"
-    " radd rsub rmul iadd isub imul iand ior neg pos invert abs bool contains getitem setitem".split()
+    " radd rsub rmul rand ror iadd isub imul iand ior neg pos invert abs bool contains getitem setitem".split()
 )
 LIBRARY = {
     "heapq": "heappush heappop heapify heapreplace heappushpop".split(),
@@ -41,6 +41,8 @@ BUILTIN_METHODS = set(
     " casefold center expandtabs removeprefix removesuffix rindex isascii isdecimal isnumeric istitle isidentifier"
     " isprintable translate add discard".split()
 )
+
+CHANGING = set("append clear extend insert pop remove reverse setdefault update sort add discard".split())
 
 
 def found():
@@ -67,6 +69,62 @@ def bound_names(node):
     if isinstance(node, ast.Attribute):
         return [node.attr]
     return []
+
+
+def runs_at_once(name, function):
+    """Whether the function is an operator or a property, so that it runs without a call that is seen."""
+    if name.startswith("__") and name.strip("_") not in ("init", "enter", "exit", "call", "iter", "setitem"):
+        return True
+    return any(isinstance(one, ast.Name) and one.id == "property" for one in function.decorator_list)
+
+
+def called_names(function):
+    calls = [node.func for node in ast.walk(function) if isinstance(node, ast.Call)]
+    return {func.id if isinstance(func, ast.Name) else getattr(func, "attr", "") for func in calls}
+
+
+def own_values(function):
+    """The local names to which the function assigns nothing but lists and dicts that it creates itself."""
+    own, other = set(), set()
+    for node in ast.walk(function):
+        targets = node.targets if isinstance(node, ast.Assign) else []
+        for target in targets:
+            stored = [one for one in ast.walk(target) if isinstance(one, ast.Name)]
+            for name in [one for one in stored if isinstance(one.ctx, ast.Store)]:
+                (own if isinstance(target, ast.Name) and does_create(node.value) else other).add(name.id)
+        if isinstance(node, (ast.For, ast.comprehension)):
+            other |= {one.id for one in ast.walk(node.target) if isinstance(one, ast.Name)}
+    return own - other - {argument.arg for argument in function.args.args}
+
+
+def does_create(value):
+    if isinstance(value, ast.Call) and isinstance(value.func, ast.Name):
+        return value.func.id in ("list", "dict", "sorted")
+    return isinstance(value, (ast.List, ast.Dict, ast.ListComp))
+
+
+def changes_of(function):
+    """The lines in which the function changes what an operator must not change."""
+    own, lines = own_values(function), []
+
+    def is_own(node):
+        return isinstance(node, ast.Name) and node.id in own
+
+    for node in ast.walk(function):
+        if isinstance(node, ast.Attribute) and isinstance(node.ctx, (ast.Store, ast.Del)):
+            if function.name != "__init__" or not isinstance(node.value, ast.Name) or node.value.id != "self":
+                lines.append(node.lineno)
+        if isinstance(node, ast.Subscript) and isinstance(node.ctx, (ast.Store, ast.Del)) and not is_own(node.value):
+            lines.append(node.lineno)
+        if isinstance(node, ast.AugAssign):
+            is_number = isinstance(node.value, ast.Constant) and isinstance(node.value.value, int)
+            if not is_number or not isinstance(node.op, ast.Add) or not isinstance(node.target, ast.Name):
+                lines.append(node.lineno)
+        if isinstance(node, ast.Call) and isinstance(node.func, ast.Attribute):
+            is_right = is_own(node.func.value) and node.func.attr not in ("sort", "add", "discard")
+            if node.func.attr in CHANGING and not is_right:
+                lines.append(node.lineno)
+    return lines
 
 
 class Language(unittest.TestCase):
@@ -162,6 +220,26 @@ class Language(unittest.TestCase):
                     if node.func.id in ("any", "all", "min", "max", "sum", "sorted"):
                         self.assertFalse(any(isinstance(one, ast.GeneratorExp) for one in node.args),
                                          (path, node.lineno))
+
+    def test_operators_and_properties_change_nothing(self):
+        functions = {}
+        for path, tree in trees().items():
+            for node in ast.walk(tree):
+                if isinstance(node, ast.FunctionDef):
+                    functions.setdefault(node.name, []).append((path, node))
+                if isinstance(node, ast.ClassDef):
+                    made = [child for child in node.body if isinstance(child, ast.FunctionDef)]
+                    functions.setdefault(node.name, []).extend((path, one) for one in made if one.name == "__init__")
+        todo = [one for name, found in functions.items() for one in found if runs_at_once(name, one[1])]
+        seen = []
+        while todo:
+            path, function = todo.pop()
+            if function not in seen:
+                seen.append(function)
+                self.assertEqual(changes_of(function), [], (path, function.name))
+                for name in called_names(function):
+                    todo.extend(functions.get(name, []))
+        self.assertIn("least_of_net", [function.name for function in seen])
 
     def test_tests_stand_beside_the_package(self):
         self.assertEqual([path for path in found() if path.name.startswith("test")], [])

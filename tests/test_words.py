@@ -1,31 +1,14 @@
 """Words: what is one, its parts, what is made of it, and all words of a size."""
 import itertools
 
-from tests.helpers import MIXED, ONE, ROADS, STRANGE, Case
+from tests.helpers import FULL, HOME, JUST, MIXED, MORE, NO_SCHEMAS, NO_WORDS, ONE, ROADS, STRANGE, Case
 from whichwalks.base.schemas import Schema
 from whichwalks.base.words import MAX_WORDS, edges_of, is_ring, is_word, joined, part, turned, words_of
 from whichwalks.errors import InvalidNumber, InvalidOperation, InvalidSchema, InvalidWord, TooMany
 
 ALL = (ONE, ROADS, MIXED)
-HOME = ("person", "knows", "person", "lives", "city")
 LONG = ("k", "go", "m", "go", "s", "in", "k", "up", "k")
 
-# Six labels lead from k and four from m, each to both kinds. So each further edge makes ten times as many words,
-# and 2 * 10 ** 4 have four edges.
-TEN = {
-    "a": (("k", "m"), ("k", "m"), True), "b": (("k", "m"), ("k", "m"), True), "c": (("k", "m"), ("k", "m"), False),
-    "d": (("k",), ("k", "m"), False), "e": (("k",), ("k", "m"), False), "f": (("k",), ("k", "m"), False),
-    "g": (("m",), ("k", "m"), False),
-}
-JUST = Schema(("k", "m"), TEN)
-# One word more of each size: around and around at a kind of its own.
-MORE = Schema(("k", "m", "z"), {**TEN, "h": (("z",), ("z",), False)})
-# 6 * 48 ** 6 words with six edges: nobody can write them down first and count them then.
-KINDS = ("a", "b", "c", "d", "e", "f")
-FULL = Schema(KINDS, {"l" + kind: (KINDS, KINDS, True) for kind in "abcdefgh"})
-
-NO_WORDS = STRANGE + ((), 7, "n", "nan", ["n"], ["n", "a", "n"], {"n": "n"}, (1,), ("a",), ("x",), ("n", "a"), (None,))
-NO_SCHEMAS = STRANGE + ((), "n", 7, ("n",), (("n",), {"a": (("n",), ("n",), True)}))
 NO_SIZES = STRANGE + ("3", -1, 7, 400, (3,), (), [3], ONE)
 
 

@@ -161,3 +161,9 @@ def is_renaming(schema, value):
 def renamed_set(table, names):
     """The set of the names that the table has for these."""
     return tuple(sorted([table[name] for name in names]))
+
+
+def check_same_schema(one, other):
+    """Raise InvalidOperation unless both schemas are equal."""
+    if one != other:
+        raise InvalidOperation("the schemas differ")

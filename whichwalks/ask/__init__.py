@@ -1,0 +1,1 @@
+"""Expressions and questions."""

@@ -1,0 +1,1 @@
+"""Graphs and their ways."""
