@@ -1,0 +1,1 @@
+"""Cuts of words, and the conditions that ask for them."""
