@@ -132,6 +132,7 @@ class Cuts(Case):
         long = ("n",) + ("b", "n") * 50000
         self.same(len(left(ONE, long, "nodes", 1, 49999)[0]), 2 * 2 + 1)
         self.same(left(ONE, long, "rings", 0, 50000), (("n",),))
+        self.same(cuts(ONE, long, "rings"), ((0, 50000),))
 
 
 class Reducts(Case):

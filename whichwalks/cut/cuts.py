@@ -45,13 +45,11 @@ def reducts(schema, word, conditions):
 
 def pairs_of(schema, word, condition):
     """The ascending list of all pairs that tell cuts of the word for which the condition asks."""
-    places = len(word) // 2 + 1
-    return [
-        (first, second)
-        for first in range(places)
-        for second in range(first + 1, places)
-        if is_cut(schema, word, condition, first, second)
-    ]
+    edges = len(word) // 2
+    pairs = [(0, edges)]
+    if condition != "rings":
+        pairs = [(first, second) for first in range(edges) for second in range(first + 1, edges + 1)]
+    return [(first, second) for first, second in pairs if is_cut(schema, word, condition, first, second)]
 
 
 def is_cut(schema, word, condition, first, second):
