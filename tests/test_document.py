@@ -7,10 +7,14 @@ from tests.helpers import FAR, FRIENDS, HOME, ONE, ROADS, TWICE, Case
 from whichwalks import errors
 from whichwalks.ask import compare, expressions, questions
 from whichwalks.base import names, schemas, words
-from whichwalks.cut import conditions, cuts
+from whichwalks.close import across, closures
+from whichwalks.cut import conditions, cuts, drawings, readings
 from whichwalks.graph import graphs, reach, ways
 
-MODULES = (names, schemas, words, expressions, questions, compare, graphs, ways, reach, cuts, conditions)
+MODULES = (
+    names, schemas, words, expressions, questions, compare, graphs, ways, reach, cuts, conditions, readings, drawings,
+    closures, across,
+)
 
 PAIR = graphs.Graph(ONE, ("n", "n"), ((0, "a", 1), (0, "b", 1), (1, "a", 1)))
 RING = graphs.Graph(ONE, ("n", "n"), ((0, "b", 1), (1, "b", 0)))
@@ -78,6 +82,29 @@ EXAMPLES = """
 [((2, (1,)),), ((2, (1,)),), ((2, (0, 1)),), False]
 >>> [demanded(Question.read(ONE, "a b"), "nodes"), least_table(Question.read(ONE, "a b"), "nodes")]
 [(), None]
+>>> [between("acyclic", "trail"), between("walk", "walk"), do_agree(TWICE, "simple", "walk"), profile(TWICE), widest(TWICE, "simple"), widest(TWICE, "acyclic")]
+[('nodes', 'rings'), (), True, ('edges', 'nodes'), 'walk', 'acyclic']
+>>> [agreement(FAR, "walk", "acyclic"), agreement(TWICE, "acyclic", "trail"), profile(near), profile(Question.read(ROADS, "lives lives"))]
+[('agree', (('holds', ()), ('holds', ()), ('holds', ()))), ('part', 'rings', ('fails', ('n', 'b', 'n', 'b', 'n'), 0, 2)), ('edges', 'nodes'), ('edges', 'nodes', 'rings')]
+>>> graph, start, end = drawn(ONE, ("n", "b", "n", "a", "n", "b", "n"), "edges", (0, 2))
+>>> [graph.kinds, graph.edges, start, end, rest(ONE, ("n", "b", "n", "a", "n", "b", "n"), "edges", ((0, 2),))]
+[('n', 'n'), ((0, 'b', 1), (1, 'a', 0)), 0, 1, ('n', 'b', 'n')]
+>>> graph, start, end = drawn(ONE, ("n", "a", "n", "a", "n"), "edges", (0, 1))
+>>> [graph.edges, start, end, drawn_way(ONE, ("n", "b", "n", "b", "n"), "rings", ((0, 2),))]
+[((0, 'a', 0),), 0, 0, (0, 'b', 1, 'b', 0)]
+>>> thrice = Question.read(ONE, "b b b")
+>>> [wider(TWICE, ("rings",)) == Question.read(ONE, "b b|:n"), wider(thrice, ("nodes",)) == Question.read(ONE, "b|b b b")]
+[True, True]
+>>> [bool(narrower(TWICE, ("rings",))), narrower(TWICE, ("edges", "nodes")) == TWICE, bool(narrower(thrice, ("nodes",)))]
+[False, True, False]
+>>> [is_widening(thrice, ("nodes",), ("n", "b", "n"), (("n", "b", "n", "b", "n", "b", "n"), "nodes", ((1, 3),))), widening(thrice, (), ("n",))]
+[True, None]
+>>> [is_covered(TWICE, "walk", TWICE, "simple"), is_covered(TWICE, "walk", TWICE, "acyclic"), is_covered(TWICE, "acyclic", FAR, "walk")]
+[True, False, False]
+>>> is_cover_paper(TWICE, "walk", TWICE, "acyclic", ("beyond", ("n", "b", "n", "b", "n"), "rings", ((0, 2),)))
+True
+>>> [is_covered(TWICE, "simple", Question.read(ONE, ":n|b b"), "acyclic"), cover_paper(TWICE, "trail", FAR, "trail")]
+[True, ('beyond', ('n', 'b', 'n', 'b', 'n'), None, ())]
 """
 
 FUNCTIONS = {
@@ -98,6 +125,15 @@ FUNCTIONS = {
           " reducts(schema, word, conditions)",
     conditions: "is_met(question, condition); demanded(question, condition); least_table(question, condition);"
                 " paper(question, condition); is_paper(question, condition, value)",
+    readings: "between(one, other); do_agree(question, one, other); profile(question); widest(question, reading);"
+              " agreement(question, one, other); is_agreement(question, one, other, value)",
+    drawings: "drawn(schema, word, condition, *cuts); drawn_of(schema, word, condition, cuts);"
+              " drawn_way(schema, word, condition, cuts); rest(schema, word, condition, cuts)",
+    closures: "wider(question, conditions); narrower(question, conditions); widening(question, conditions, word);"
+              " narrowing(question, conditions, word); is_widening(question, conditions, word, value);"
+              " is_narrowing(question, conditions, word, value)",
+    across: "is_covered(one, reading, other, by); cover_paper(one, reading, other, by);"
+            " is_cover_paper(one, reading, other, by, value)",
 }
 
 METHODS = {

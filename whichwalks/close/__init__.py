@@ -1,0 +1,1 @@
+"""Questions made wider or narrower by conditions, and what follows for readings."""

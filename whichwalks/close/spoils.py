@@ -1,0 +1,73 @@
+"""Cuts of a word that leave a word which a question has not."""
+from whichwalks.ask.machines import targets_of
+from whichwalks.cut.cuts import is_cut
+
+
+def spoiling_cuts(question, condition, word):
+    """The tuple of one or more cuts of a word of the question that leave a word which it has not, or None.
+
+    They are cuts by the condition that are apart, and no double edges.
+    """
+    if condition == "rings":
+        whole = (0, len(word) // 2)
+        is_spoilt = is_cut(question.schema, word, condition, whole[0], whole[1]) and word[:1] not in question
+        return (whole,) if is_spoilt else None
+    reached = points_of(question, condition, word)
+    for state, is_left in reached[-1]:
+        if state not in question.machine[3]:
+            return cuts_back(condition, reached, (state, is_left))
+    return None
+
+
+def points_of(question, condition, word):
+    """For each place of the word the dict of its points, with the places and points ahead of them.
+
+    A point is a pair (state, is_left): the state to which what is left so far leads, None if the question lacks that,
+    and whether it has an edge. It comes from the point ahead by an edge that is left, or is met again behind a cut.
+    """
+    targets = targets_of(question.machine)
+    reached = [{(question.firsts[word[0]], False): None}]
+    # Of places with the same point between which a cut is looked for, the first one is the best one.
+    met = {sign_at(condition, word, 0): {point: 0 for point in reached[0]}}
+    for place in range(1, len(word) // 2 + 1):
+        here = {}
+        for state, is_left in reached[-1]:
+            target = targets.get((state, word[2 * place - 1], word[2 * place]))
+            here[target, True] = (place - 1, (state, is_left), False)
+        known = met.setdefault(sign_at(condition, word, place), {})
+        for point, begin in known.items():
+            if point not in here and can_cut(question.schema, word, condition, begin, place):
+                here[point] = (begin, point, True)
+        for point in here:
+            known.setdefault(point, place)
+        reached.append(here)
+    return reached
+
+
+def sign_at(condition, word, place):
+    """What is the same at two places between which a cut takes away: the kind, or the edge ahead."""
+    begin = 2 * place if condition == "nodes" else max(0, 2 * place - 2)
+    return word[begin:2 * place + 1]
+
+
+def cut_between(condition, begin, end):
+    """The cut that takes away what stands between two places."""
+    return (begin, end) if condition == "nodes" else (begin - 1, end - 1)
+
+
+def can_cut(schema, word, condition, begin, end):
+    """Whether a cut that is no double edge takes away what stands between two places."""
+    first, second = cut_between(condition, begin, end)
+    return is_cut(schema, word, condition, first, second) and (condition == "nodes" or second - first > 1)
+
+
+def cuts_back(condition, reached, point):
+    """The tuple of the cuts that lead to a point of the last place."""
+    cuts = []
+    place = len(reached) - 1
+    while place > 0:
+        begin, ahead, is_cut_here = reached[place][point]
+        if is_cut_here:
+            cuts.append(cut_between(condition, begin, place))
+        place, point = begin, ahead
+    return tuple(cuts[::-1])
