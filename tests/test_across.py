@@ -170,6 +170,29 @@ class Papers(Case):
                 else:
                     self.assertTrue(told[0] == "within" or len(told[1]) > 8)
 
+    def test_the_shortest_of_several_words(self):
+        every = Question.read(ONE, "(a|b)*")
+        for text, lacking, wanted in (
+            # Of many edges one is cut away, or of few ones several: all edges of the word are counted.
+            ("a b b b b b b|b b a a a", "b b b b b b|b b", "b b a a a"),
+            ("a b b b b b|a b b b b b a", "b b b b b|a a", "a b b b b b"),
+        ):
+            told = cover_paper(Question.read(ONE, text), "trail", every - Question.read(ONE, lacking), "simple")
+            self.same([" ".join(told[1][1::2]), told[2]], [wanted, "nodes"])
+        one, other = Question.read(ONE, ":n|b b"), Question.read(ONE, "b b")
+        self.same(cover_paper(one, "trail", other, "simple"), ("beyond", ("n",), None, ()))
+        one, other = Question.read(ONE, "b b b|b b"), Question.read(ONE, "b b b|b b")
+        self.same(cover_paper(one, "trail", other, "acyclic"), ("beyond", BB, "rings", ((0, 2),)))
+        every = Question.read(ROADS, "(road|knows|lives)*")
+        one, other = Question.read(ROADS, "lives road|road road road"), every - Question.read(ROADS, "lives|:city")
+        word = ("person", "lives", "city", "road", "city")
+        self.same(cover_paper(one, "trail", other, "acyclic"), ("beyond", word, "nodes", ((1, 2),)))
+
+    def test_words_beyond_themselves_have_no_cuts(self):
+        self.same(is_cover_paper(TWICE, "walk", FAR, "acyclic", ("beyond", BB, None, ())), True)
+        for cuts in (((0, 2),), [], None, ((),), (None,)):
+            self.same(is_cover_paper(TWICE, "walk", FAR, "acyclic", ("beyond", BB, None, cuts)), False)
+
     def test_each_clause_broken_by_itself(self):
         right = ("beyond", BB, "rings", ((0, 2),))
         self.same(is_cover_paper(TWICE, "walk", TWICE, "acyclic", right), True)

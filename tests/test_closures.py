@@ -9,6 +9,7 @@ from tests.test_cuts import NO_TUPLES, TUPLES, plain_cuts
 from tests.test_drawings import left_by_all, told_apart
 from whichwalks.ask.compare import is_within
 from whichwalks.ask.questions import Question
+from whichwalks.base.schemas import Schema
 from whichwalks.close.closures import is_narrowing, is_widening, narrower, narrowing, wider, widening
 from whichwalks.cut.conditions import is_met
 from whichwalks.cut.cuts import CONDITIONS, reducts
@@ -53,6 +54,18 @@ def some_questions(seed, many):
             for conditions in TUPLES:
                 if is_let(schema, conditions):
                     yield question, conditions
+
+
+def single_words(seed, many):
+    """Words, each with its question, the conditions that are let, and all tuples of cuts of it by these."""
+    chooser = random.Random(seed)
+    for schema in ALL:
+        words = words_up_to(schema, 5 if len(schema.labels) < 3 else 4)
+        for word in chooser.sample(words, min(many, len(words))):
+            for conditions in TUPLES:
+                told = all_cut_words(schema, word, conditions)
+                if is_let(schema, conditions) and told:
+                    yield schema, word, conditions, told
 
 
 def some_words(question, chooser, size, many):
@@ -216,7 +229,23 @@ class Widening(Case):
                     self.same(is_widening(question, conditions, other, (other, condition, ())), False)
         self.assertGreater(counted, 500)
 
+    def test_one_word_alone(self):
+        for schema, word, conditions, told in single_words(84, 25):
+            question = Question.of_words(schema, (word,))
+            for condition, cuts, left in told:
+                found = widening(question, conditions, left)
+                if left == word:
+                    self.same(found, (word, None, ()))
+                else:
+                    self.same(found[0], word)
+                    self.assertIn(found[1:] + (left,), told)
+            whole = wider(question, conditions)
+            words = {left for _, _, left in told} | {word}
+            self.same([one for one in words_up_to(schema, 3) if one in whole], [
+                one for one in words_up_to(schema, 3) if one in words])
+
     def test_own_words(self):
+        self.same(is_widening(FAR, ("nodes",), ("n", "a", "n"), (("n", "a", "n"), None, ((0, 1),))), False)
         self.same(widening(FAR, ("nodes",), ("n", "a", "n")), (("n", "a", "n"), None, ()))
         self.same(widening(TWICE, (), ("n", "b", "n", "b", "n")), (("n", "b", "n", "b", "n"), None, ()))
         # A word that the question has can be shown by cuts of another one, too.
@@ -238,6 +267,12 @@ class Widening(Case):
         apart = Question.read(BARE, "a b a a b a")
         found = widening(apart, ("edges",), ("n", "a", "n", "a", "n"))
         self.same(found, (("n", "a", "n", "b", "n", "a", "n", "a", "n", "b", "n", "a", "n"), "edges", ((0, 2), (3, 5))))
+
+    def test_the_nearest_of_several_edges(self):
+        # Behind the first edge the same one stands again, by one edge or by two, and ends in one state.
+        question = Question.read(BARE, "b a|a b a|a b b a")
+        found = widening(question, ("edges",), ("n", "a", "n"))
+        self.same(found, (("n", "a", "n", "b", "n", "a", "n"), "edges", ((0, 2),)))
 
     def test_words_are_as_short_as_any(self):
         for question, conditions in some_questions(82, 5):
@@ -296,6 +331,21 @@ class Widening(Case):
 
 class Narrowing(Case):
 
+    def test_all_that_is_left_but_one_word(self):
+        counted = 0
+        for schema, word, conditions, told in single_words(85, 25):
+            for lacking in sorted({left for _, _, left in told} - {word}):
+                words = {left for _, _, left in told} | {word}
+                try:
+                    question = Question.of_words(schema, tuple(words - {lacking}))
+                except TooMany:
+                    continue
+                found = narrowing(question, conditions, word)
+                self.assertIn(found + (lacking,), told)
+                self.same(word in narrower(question, conditions), False)
+                counted += 1
+        self.assertGreater(counted, 300)
+
     def test_each_right_pair_and_no_other_one(self):
         counted = 0
         for question, conditions in some_questions(83, 6):
@@ -341,6 +391,18 @@ class Narrowing(Case):
         told = cut_words(BARE, word, "edges")
         self.same(narrowing(bare, ("edges",), word), ("edges", ((0, 2), (3, 5))))
         self.same([cuts for cuts, left in told.items() if left not in bare], [((0, 2), (3, 5))])
+
+    def test_states_that_are_met_again(self):
+        # Only the cut at the end leaves another word, which leads to the first state once more.
+        question = Question.read(ONE, "a* (b|b b)")
+        self.same(narrowing(question, ("nodes",), ("n", "a", "n", "b", "n", "b", "n")), ("nodes", ((1, 3),)))
+        # Different edges lead to one state; the cut has the second one of them.
+        three = Schema(("n",), {label: (("n",), ("n",), False) for label in "abc"})
+        word = ("n", "a", "n", "b", "n", "c", "n", "b", "n")
+        self.same(narrowing(Question.read(three, "a b* c b"), ("edges",), word), ("edges", ((1, 3),)))
+        two = Schema(("k", "m"), {"g": (("k", "m"), ("m",), False), "h": (("m",), ("m",), False)})
+        word = ("k", "g", "m", "g", "m", "h", "m", "g", "m")
+        self.same(narrowing(Question.read(two, ":k g g* h g"), ("edges",), word), ("edges", ((1, 3),)))
 
     def test_long_words(self):
         word = ("n",) + ("b", "n") * 30000

@@ -7,20 +7,22 @@ from tests.helpers import FAR, FRIENDS, HOME, ONE, ROADS, TWICE, Case
 from whichwalks import errors
 from whichwalks.ask import compare, expressions, questions
 from whichwalks.base import names, schemas, words
-from whichwalks.close import across, closures
+from whichwalks.close import across, closures, loops
 from whichwalks.cut import conditions, cuts, drawings, readings
+from whichwalks.desk import store
 from whichwalks.graph import graphs, reach, ways
+from whichwalks.text import formats, shell
 
 MODULES = (
     names, schemas, words, expressions, questions, compare, graphs, ways, reach, cuts, conditions, readings, drawings,
-    closures, across,
+    closures, across, loops, store, formats, shell,
 )
 
 PAIR = graphs.Graph(ONE, ("n", "n"), ((0, "a", 1), (0, "b", 1), (1, "a", 1)))
 RING = graphs.Graph(ONE, ("n", "n"), ((0, "b", 1), (1, "b", 0)))
 
 # As they stand in the document.
-EXAMPLES = """
+EXAMPLES = r"""
 >>> [is_integer(-3), is_integer(True), is_name("road"), is_name("Road"), is_set(("a", "b")), is_set(("b", "a")), is_set(())]
 [True, False, True, False, True, False, True]
 >>> [ROADS.kinds, ROADS.loops, ROADS["lives"], len(ROADS), str(ROADS), ROADS.fits("person", "lives", "city"), "city" in ROADS]
@@ -105,6 +107,33 @@ EXAMPLES = """
 True
 >>> [is_covered(TWICE, "simple", Question.read(ONE, ":n|b b"), "acyclic"), cover_paper(TWICE, "trail", FAR, "trail")]
 [True, ('beyond', ('n', 'b', 'n', 'b', 'n'), None, ())]
+>>> double = Question.read(ONE, "a a")
+>>> [least_enough(double, "walk", "trail"), greatest_short(double, "walk", "trail"), least_enough(FRIENDS, "walk", "acyclic")]
+[(('a',),), ((),), ((),)]
+>>> [least_enough(double, "walk", "acyclic"), greatest_short(double, "acyclic", "walk"), is_enough(double, ("a",), "trail", "simple")]
+[(), (('a',),), True]
+>>> store = Store(ROADS)
+>>> [store.add(kind) for kind in ("person", "person", "city")]
+[0, 1, 2]
+>>> [store.put(0, "knows", 1), store.put(1, "knows", 0), store.put(1, "lives", 2), store.keep("far", FRIENDS, "acyclic")]
+[None, None, None, None]
+>>> [store.plan("far"), store.pairs("far"), store.has_pair("far", 0, 1), str(store)]
+['walk', ((0, 2), (1, 2)), False, 'store of 3 nodes, 3 edges, 1 questions']
+>>> [store.way("far", 0, 2), store.undo(many=2), store.pairs("far") if "far" in store else (), store.redo(many=2)]
+[(0, 'knows', 1, 'lives', 2), 5, (), 7]
+>>> write_schema(ROADS).split("\n")
+['kinds city person', 'label knows person -> person apart', 'label lives person -> city apart', 'label road city -> city loops']
+>>> write_question(TWICE).split("\n")
+['state n first', 'step b 1', 'state n', 'step b 2', 'state n last']
+>>> [write_graph(Graph(ONE, ("n", "n"), ((0, "b", 1),))).split("\n"), read_question(ONE, "") == Question.of_words(ONE, ())]
+[['node n', 'node n', 'edge 0 b 1'], True]
+>>> [write_value(("fails", ("n", "a", "n"), 0, 1)), read_value("( =holds ( ) - )")]
+['( =fails ( =n =a =n ) 0 1 )', ('holds', (), None)]
+>>> shell = Shell(write_schema(ROADS))
+>>> [shell("add person"), shell("add city"), shell("put 0 lives 1"), shell("keep far acyclic knows* lives"), shell("pairs far"), shell("plan far")]
+['0', '1', 'done', 'done', '0 1', 'walk']
+>>> [shell("way far 0 1"), shell("put 1 lives 0"), shell("forget near"), shell("agree far trail"), shell("undo 9"), shell("fly")]
+['0 lives 1', 'graph', 'unknown near', 'yes', 'undo 9', 'what']
 """
 
 FUNCTIONS = {
@@ -134,6 +163,10 @@ FUNCTIONS = {
               " is_narrowing(question, conditions, word, value)",
     across: "is_covered(one, reading, other, by); cover_paper(one, reading, other, by);"
             " is_cover_paper(one, reading, other, by, value)",
+    loops: "is_enough(question, labels, reading, other); least_enough(question, reading, other);"
+           " greatest_short(question, reading, other)",
+    formats: "write_schema(schema); write_graph(graph); write_question(question); write_value(value);"
+             " read_schema(text); read_graph(schema, text); read_question(schema, text); read_value(text)",
 }
 
 METHODS = {
@@ -144,16 +177,26 @@ METHODS = {
                         " shortest(self)",
     graphs.Graph: "__init__(self, schema, kinds, edges); with_node(self, kind); with_edge(self, edge);"
                   " without_edge(self, edge); turned(self)",
+    store.Store: "__init__(self, schema); add(self, kind); put(self, source, label, target);"
+                 " drop(self, source, label, target); keep(self, name, question, reading); forget(self, name);"
+                 " plan(self, name); pairs(self, name); has_pair(self, name, source, target);"
+                 " way(self, name, source, target); undo(self, *, many=1); redo(self, *, many=1); trial(self);"
+                 " during(self, call); twin(self)",
+    shell.Shell: "__init__(self, text); store(self); __call__(self, line); answer(self, line)",
 }
 OPERATORS = {
     schemas.Schema: "getitem contains len eq str iter",
     questions.Question: "or and sub add contains len bool eq str",
     graphs.Graph: "getitem contains len eq str or iter",
+    store.Store: "getitem contains len eq str iter",
+    shell.Shell: "call",
 }
 PROPERTIES = {
     schemas.Schema: "kinds labels loops",
     questions.Question: "schema machine firsts",
     graphs.Graph: "schema kinds edges",
+    store.Store: "schema graph names",
+    shell.Shell: "",
 }
 CLASS_METHODS = {questions.Question: "read(schema, text); of_words(schema, words); of_machine(schema, machine)"}
 CONSTANTS = {
@@ -187,6 +230,10 @@ class Document(Case):
         self.refused(errors.InvalidOperation, ROADS.with_loops, ("lives",))
         self.refused(errors.ParseError, expressions.read, ROADS, "knows (|road)", kept=7)
         self.refused(errors.InvalidGraph, PAIR.with_edge, (0, "b", 0))
+        town = store.Store(ROADS)
+        for kind in ("person", "person", "city"):
+            town.add(kind)
+        self.refused(errors.InvalidGraph, town.put, 2, "lives", 1)
 
     def test_examples_of_the_readme(self):
         path = pathlib.Path(__file__).resolve().parent.parent / "README.md"
@@ -226,7 +273,8 @@ class Document(Case):
 
     def test_classes_stand_in_their_files(self):
         self.assertEqual([one.__module__ for one in METHODS], [
-            "whichwalks.base.schemas", "whichwalks.ask.questions", "whichwalks.graph.graphs",
+            "whichwalks.base.schemas", "whichwalks.ask.questions", "whichwalks.graph.graphs", "whichwalks.desk.store",
+            "whichwalks.text.shell",
         ])
 
     def test_constants(self):

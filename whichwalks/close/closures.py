@@ -33,12 +33,12 @@ def widening(question, conditions, word):
     check_asked_word(question, conditions, word)
     if word in question:
         return word, None, ()
-    best = None
+    # Whole cuts leave words without edges, and other cuts such with edges. So no two conditions leave the word.
     for condition in needed(conditions):
         found = shortest_filled(question, condition, Along(word))
-        if found is not None and (best is None or len(found[0]) < len(best[0])):
-            best = (found[0], condition, found[1])
-    return best
+        if found is not None:
+            return found[0], condition, found[1]
+    return None
 
 
 def narrowing(question, conditions, word):

@@ -6,7 +6,8 @@ from whichwalks.cut.cuts import is_cut
 def spoiling_cuts(question, condition, word):
     """The tuple of one or more cuts of a word of the question that leave a word which it has not, or None.
 
-    They are cuts by the condition that are apart, and no double edges.
+    They are cuts by the condition that are apart. Edge cuts are asked for only where no label can loop, so no cut is a
+    double edge.
     """
     if condition == "rings":
         whole = (0, len(word) // 2)
@@ -27,7 +28,7 @@ def points_of(question, condition, word):
     """
     targets = targets_of(question.machine)
     reached = [{(question.firsts[word[0]], False): None}]
-    # Of places with the same point between which a cut is looked for, the first one is the best one.
+    # If a cut begins at one of several places with the same point, one can begin at the first one of them.
     met = {sign_at(condition, word, 0): {point: 0 for point in reached[0]}}
     for place in range(1, len(word) // 2 + 1):
         here = {}
@@ -36,7 +37,8 @@ def points_of(question, condition, word):
             here[target, True] = (place - 1, (state, is_left), False)
         known = met.setdefault(sign_at(condition, word, place), {})
         for point, begin in known.items():
-            if point not in here and can_cut(question.schema, word, condition, begin, place):
+            first, second = cut_between(condition, begin, place)
+            if is_cut(question.schema, word, condition, first, second):
                 here[point] = (begin, point, True)
         for point in here:
             known.setdefault(point, place)
@@ -45,20 +47,13 @@ def points_of(question, condition, word):
 
 
 def sign_at(condition, word, place):
-    """What is the same at two places between which a cut takes away: the kind, or the edge ahead."""
-    begin = 2 * place if condition == "nodes" else max(0, 2 * place - 2)
-    return word[begin:2 * place + 1]
+    """What is the same at two places between which a cut takes away, beside the state: for "edges" the edge ahead."""
+    return word[max(0, 2 * place - 2):2 * place] if condition == "edges" else ()
 
 
 def cut_between(condition, begin, end):
     """The cut that takes away what stands between two places."""
-    return (begin, end) if condition == "nodes" else (begin - 1, end - 1)
-
-
-def can_cut(schema, word, condition, begin, end):
-    """Whether a cut that is no double edge takes away what stands between two places."""
-    first, second = cut_between(condition, begin, end)
-    return is_cut(schema, word, condition, first, second) and (condition == "nodes" or second - first > 1)
+    return (begin - 1, end - 1) if condition == "edges" else (begin, end)
 
 
 def cuts_back(condition, reached, point):

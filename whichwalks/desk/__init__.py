@@ -1,0 +1,1 @@
+"""A store that keeps a graph and questions."""
