@@ -9,10 +9,6 @@ def spoiling_cuts(question, condition, word):
     They are cuts by the condition that are apart. Edge cuts are asked for only where no label can loop, so no cut is a
     double edge.
     """
-    if condition == "rings":
-        whole = (0, len(word) // 2)
-        is_spoilt = is_cut(question.schema, word, condition, whole[0], whole[1]) and word[:1] not in question
-        return (whole,) if is_spoilt else None
     reached = points_of(question, condition, word)
     for state, is_left in reached[-1]:
         if state not in question.machine[3]:
