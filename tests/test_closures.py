@@ -1,5 +1,6 @@
 """Wider and narrower questions, against all short words and their cuts that are apart, and what shows their words."""
 import random
+import time
 
 from tests.helpers import (
     FAR, FRIENDS, HOME, MIXED, NO_QUESTIONS, NO_WORDS, ONE, ROADS, STRANGE, TWICE, Case,
@@ -205,6 +206,29 @@ class Narrower(Case):
         word = ("n", "a", "n", "b", "n", "a", "n", "b", "n", "a", "n", "b", "n", "a", "n")
         self.same(is_narrowing(more, ("edges",), word, narrowing(more, ("edges",), word)), True)
         self.same(len(narrower(more, ("nodes",))) < 24, True)
+
+
+    def test_many_labels_and_states(self):
+        chooser, begin, sizes = random.Random(86), time.process_time(), []
+        schema = Schema(("n",), {label: (("n",), ("n",), False) for label in "abcd"})
+        for _ in range(12):
+            many = chooser.randrange(16, 25)
+            steps = tuple((state, label, chooser.randrange(many)) for state in range(many) for label in "abcd")
+            lasts = tuple(state for state in range(many) if chooser.random() < chooser.choice((0.1, 0.5, 0.9)))
+            question = Question.of_machine(schema, (("n",) * many, (0,), steps, lasts))
+            for conditions in TUPLES:
+                try:
+                    less = narrower(question, conditions)
+                except TooMany:
+                    continue
+                sizes.append(len(less))
+                self.same([is_within(less, question)] + [is_met(less, one) for one in conditions],
+                          [True] * (len(conditions) + 1))
+                for word in question.words(4)[::9]:
+                    self.same(word in less, narrowing(question, conditions, word) is None)
+        self.assertGreater(len(sizes), 40)
+        # It takes about a second; slow machines may take much longer.
+        self.assertLess(time.process_time() - begin, 60)
 
 
 class Widening(Case):

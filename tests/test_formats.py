@@ -224,7 +224,8 @@ class Back(Case):
             (("label a n -> n apart", "kinds n"), 0), (("kinds n", "kinds n"), 1), (("kinds n", "label a n -> n apart"), None),
             (("kinds n", "label a n -> n"), 1), (("kinds n", "label a n n apart"), 1), (("kinds n", "label a -> apart"), 2),
             (("kinds n", "label a n -> apart"), 2), (("kinds n", "label a -> n apart"), 2), (("kinds n", "label -> n apart"), 1),
-            (("kinds n", "label a n -> -> n apart"), 1), (("kinds n", "label a n -> n loop"), 1), (("kinds n", "label"), 1),
+            (("kinds n", "label a n -> -> n apart"), 1), (("kinds n", "label a n -> n loop"), 1), (("kinds n", "label"), 1), (("kinds n", "label a apart"), 1), (("kinds n", "label loops"), 1),
+            (("kinds n", "label apart"), 1),
             (("kinds n", "label a n -> m apart"), 2), (("kinds n", "label n n -> n apart"), 2), (("kinds n m",), 1),
             (("kinds m n", "label b n -> n apart", "label a n -> n apart"), 2), (("kinds a b c d e f g", "label x a -> a apart"), 2),
             (("kinds m n", "label a n -> n apart", "label a n -> n apart"), 2), (("kinds m n", "label a n m -> n apart"), 2),
@@ -298,7 +299,8 @@ class Back(Case):
             # No state, a mark twice or out of order, a step ahead of each state, steps that do not ascend.
             ("state", 0), ("state n first first", 0), ("state n last first", 0), ("state n firsts", 0), ("step a 0", 0),
             ("state n first last\nstep a 0\nstep a 0", 2), ("state n first last\nstep b 0\nstep a 0", 2), ("state N", 0),
-            ("state n first last\nstep a 00", 1), ("state n first last\nstep a", 1), ("state n first last\nstep 0 a", 1),
+            ("state n first last\nstep a 00", 1), ("state n first last\nstep a", 1), ("state n first last\nstep 0 a", 1), ("state n first last\nstep A 0", 1),
+            ("state n first last\nstep 0 0", 1), ("state n first last\nstep  0", 1),
             # Right lines of no machine: another kind, a target that is none, a step that does not fit, no word.
             ("state m first last", 1), ("state n first last\nstep a 1", 2), ("state n first last\nstep c 0", 2),
             ("state first first last", 1), ("state n", 1), ("state n first", 1), ("state n last", 1),
@@ -333,7 +335,7 @@ class Back(Case):
         for text, index in (
             ("", 0), (" ", 0), ("\n", 0), ("n", 0), ("=", 0), ("=N", 0), ("= n", 0), ("=abcdefghi", 0), ("-1", 0), ("01", 0),
             ("00", 0), ("(", 0), (")", 0), ("()", 0), ("(  )", 0), ("( ", 0), ("( ) ", 0), (" ( )", 0), ("( =n", 0), ("=n )", 0),
-            ("( =n ) )", 0), ("( ( =n )", 0), ("0 1", 0), ("( ) ( )", 0), ("- -", 0), ("--", 0), ("None", 0), ("True", 0), ("1.0", 0),
+            ("( =n ) )", 0), ("( ( =n )", 0), ("0 1", 0), ("( ) ( )", 0), ("=n (", 0), ("0 ( =n", 0), ("- -", 0), ("--", 0), ("None", 0), ("True", 0), ("1.0", 0),
             ("( =n )\n", 1), ("( =n )\n( =n )", 1), ("0\n0", 1), ("(\n)", 0), ("0\n\n", 1), ("+1", 0), ("1_0", 0), ("=n=n", 0),
             ("( =n, )", 0), ("'n'", 0), ("\t0", 0), ("0\r", 0), ("\u0661", 0), ("\xb2", 0), ("==n", 0), ("( =n -)", 0), ("x\n\n", 0),
         ):

@@ -125,13 +125,18 @@ def machine_told(table, columns, limit):
 
 def difference(table, machine):
     """The signs of a word that only one of both has, the net of the table or the machine; None if there is no such."""
+    ahead = signs_ahead(machine)
+    signs = word_of_net_only(table, machine, ahead)
+    return word_of_machine_only(table, machine, ahead) if signs is None else signs
+
+
+def signs_ahead(machine):
+    """The list of the dicts from the signs of steps to their targets, for each state of the machine."""
     kinds, _, steps, _ = machine
     rows = {}
     for state, label, target in steps:
         rows[state] = rows.get(state, ()) + (((label, kinds[target]), target),)
-    ahead = [dict(rows.get(state, ())) for state in range(len(kinds))]
-    signs = word_of_net_only(table, machine, ahead)
-    return word_of_machine_only(table, machine, ahead) if signs is None else signs
+    return [dict(rows.get(state, ())) for state in range(len(kinds))]
 
 
 def word_of_net_only(table, machine, ahead):

@@ -1,10 +1,10 @@
 """The least wider and the greatest narrower question that meet conditions, and what shows their words."""
-from whichwalks.ask.least import least_of_net
 from whichwalks.ask.nets import or_net, pair_net
 from whichwalks.ask.questions import MAX_STATES, check_question, question_of
 from whichwalks.base.words import check_word
 from whichwalks.close.fillings import Along, shortest_filled
-from whichwalks.close.shortened import shortened_net, spoilt_net
+from whichwalks.close.learned import spoilt_machine
+from whichwalks.close.shortened import shortened_net
 from whichwalks.close.spoils import spoiling_cuts
 from whichwalks.cut.cuts import check_conditions
 from whichwalks.cut.drawings import are_apart, has_double, word_left_by
@@ -25,7 +25,7 @@ def narrower(question, conditions):
     """The greatest question that has only words of the question and meets the conditions."""
     check_asked_for(question, conditions)
     check_loops(question.schema, conditions)
-    return question_of(question.schema, pair_net(question.machine, spoilt_machine(question, conditions), True))
+    return question_of(question.schema, pair_net(question.machine, spoilt_words(question, conditions), True))
 
 
 def widening(question, conditions, word):
@@ -104,12 +104,12 @@ def needed(conditions):
     return [condition for condition in conditions if condition != "edges" or "nodes" not in conditions]
 
 
-def spoilt_machine(question, conditions):
+def spoilt_words(question, conditions):
     """The least machine of all words that are not in the narrower question; TooMany if that has too many states."""
     # Beside the states of the narrower question there is at most one of each kind, at which no word of it goes on.
     limit = MAX_STATES + len(question.schema.kinds)
     try:
-        return least_of_net(spoilt_net(question, conditions), limit)
+        return spoilt_machine(question, needed(conditions), limit)
     except TooMany:
         raise TooMany(MAX_STATES) from None
 

@@ -136,7 +136,7 @@ def are_names(words):
 
 def is_label(words):
     """Whether the words are those of a line that tells a label."""
-    if words[0] != "label" or len(words) < 4 or words[-1] not in ("loops", "apart"):
+    if words[0] != "label" or words[-1] not in ("loops", "apart"):
         return False
     middle = words[1:-1]
     return middle.count("->") == 1 and middle[0] != "->" and are_names([word for word in middle if word != "->"])
