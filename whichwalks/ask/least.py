@@ -167,19 +167,30 @@ def word_of_machine_only(table, machine, ahead):
     """
     begins, moves, last = table
     todo = [(state, begins[machine[0][state]], ()) for state in machine[1]]
+    seen = {}
     smaller = {}
     at = 0
     while at < len(todo):
         state, found, signs = todo[at]
         at += 1
-        if any([found & other == other for other in smaller.get(state, ())]):
+        # Most sets that are met again are just the same.
+        if (state, found) in seen or has_smaller(smaller.get(state, ()), found):
             continue
+        seen[state, found] = True
         smaller[state] = smaller.get(state, ()) + (found,)
         if state in machine[3] and found & last == 0:
             return signs
         targets = all_moves(moves, found)
         todo.extend([(target, targets.get(sign, 0), signs + (sign,)) for sign, target in ahead[state].items()])
     return None
+
+
+def has_smaller(known, found):
+    """Whether one of the known sets is a part of the found one."""
+    for other in known:
+        if found & other == other:
+            return True
+    return False
 
 
 def columns_of(table, signs):

@@ -5,7 +5,7 @@ are not known yet is not asked of all sets of points to which words lead, which 
 words have only cuts that leave known words, and of these words the sets are few.
 """
 from whichwalks.ask.least import (
-    all_moves, columns_of, least_of_net, machine_told, signs_ahead, table_of, word_of_net_only,
+    all_moves, columns_of, has_smaller, least_of_net, machine_told, signs_ahead, table_of, word_of_net_only,
 )
 from whichwalks.ask.machines import fewest_to_lasts
 from whichwalks.ask.nets import pair_net
@@ -52,6 +52,7 @@ def word_outside(table, machine, full):
     for state in machine[1]:
         if state in fewest:
             waiting.setdefault(fewest[state], []).append((state, begins.get(machine[0][state], 0), ()))
+    seen = {}
     smaller = {}
     while waiting:
         edges = min(list(waiting))
@@ -66,17 +67,12 @@ def word_outside(table, machine, full):
             return signs
         targets = all_moves(moves, found)
         for sign, target in ahead[state].items():
-            if target in fewest:
-                waiting.setdefault(fewest[target], []).append((target, targets.get(sign, 0), signs + (sign,)))
+            behind = targets.get(sign, 0)
+            # Most sets that are met again are just the same.
+            if target in fewest and (target, behind) not in seen:
+                seen[target, behind] = True
+                waiting.setdefault(fewest[target], []).append((target, behind, signs + (sign,)))
     return None
-
-
-def has_smaller(known, found):
-    """Whether one of the known sets is a part of the found one."""
-    for other in known:
-        if found & other == other:
-            return True
-    return False
 
 
 def full_states(schema, net):
