@@ -194,6 +194,54 @@ class Language(unittest.TestCase):
                     if name.startswith("__"):
                         self.assertIn(name.strip("_"), METHODS, where)
 
+    def test_no_local_name_is_that_of_an_import_or_a_class(self):
+        for path, tree in trees().items():
+            taken = {node.name for node in tree.body if isinstance(node, ast.ClassDef)}
+            for node in tree.body:
+                taken |= {alias.name for alias in node.names} if isinstance(node, ast.ImportFrom) else set()
+            read = {node.id for node in ast.walk(tree) if isinstance(node, ast.Name)}
+            self.assertEqual({name for name in taken if name not in read} - self.kept_names(tree), set(), path)
+            for node in ast.walk(tree):
+                where = (path, getattr(node, "lineno", 0))
+                if isinstance(node, ast.Name) and isinstance(node.ctx, ast.Store):
+                    self.assertNotIn(node.id, taken, where)
+                if isinstance(node, ast.arg):
+                    self.assertNotIn(node.arg, taken, where)
+                if isinstance(node, ast.ExceptHandler):
+                    self.assertNotIn(node.name, taken, where)
+
+    def kept_names(self, tree):
+        """The classes of a file, which other files may import."""
+        return {node.name for node in tree.body if isinstance(node, ast.ClassDef)}
+
+    def test_blocks_end_by_assignments_only(self):
+        found = 0
+        for path, tree in trees().items():
+            for node in ast.walk(tree):
+                if isinstance(node, ast.FunctionDef) and node.name == "__exit__":
+                    found += 1
+                    for row in node.body:
+                        self.assertIsInstance(row, ast.Assign, path)
+                        self.assertTrue(all(isinstance(one, ast.Attribute) for one in row.targets), path)
+                        self.assertIsInstance(row.value, (ast.Attribute, ast.Name), path)
+                if isinstance(node, ast.FunctionDef) and node.name == "__iter__":
+                    self.assertEqual(len(node.body), 1, path)
+                if isinstance(node, ast.Try):
+                    self.assertEqual(node.finalbody, [], path)
+                    for handler in node.handlers:
+                        self.assertNotIn(handler.type.id, BUILTINS, path)
+        self.assertEqual(found, 1)
+
+    def test_errors_that_handlers_name(self):
+        for path, tree in trees().items():
+            for node in ast.walk(tree):
+                if isinstance(node, ast.FunctionDef):
+                    names = [one.name for one in ast.walk(node) if isinstance(one, ast.ExceptHandler) and one.name]
+                    stored = [one.id for one in ast.walk(node) if isinstance(one, ast.Name)
+                              and isinstance(one.ctx, ast.Store)]
+                    self.assertEqual(len(names), len(set(names)), path)
+                    self.assertFalse(set(names) & set(stored), path)
+
     def test_builtins(self):
         for path, tree in trees().items():
             for node in ast.walk(tree):
