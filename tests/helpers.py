@@ -86,6 +86,14 @@ def some_graph(schema, chooser, nodes, edges):
     return Graph(schema, kinds, tuple(sorted(found)))
 
 
+def attempt(call, *told):
+    """What the call returns, or the limit that it goes beyond."""
+    try:
+        return call(*told)
+    except TooMany as error:
+        return error.limit
+
+
 class Case(unittest.TestCase):
     """A test case that tells True from 1, and errors from those of derived classes."""
 

@@ -1,13 +1,14 @@
 """Two questions by two readings, against plain search in graphs and by wider questions, and cover papers."""
 import random
 
-from tests.helpers import FAR, FRIENDS, MIXED, NO_QUESTIONS, ONE, ROADS, STRANGE, TWICE, Case, some_graph
+from tests.helpers import FAR, FRIENDS, MIXED, NO_QUESTIONS, ONE, ROADS, STRANGE, TWICE, Case, attempt, some_graph
 from tests.reckoning import machine_words, some_expressions, some_machine
 from tests.test_closures import BARE, all_cut_words, cut_words
 from tests.test_readings import pairs_by_search
 from tests.test_ways import NO_READINGS
 from whichwalks.ask.compare import is_within, within_paper
 from whichwalks.ask.questions import Question
+from whichwalks.base.words import words_of
 from whichwalks.close.across import cover_paper, is_cover_paper, is_covered
 from whichwalks.close.closures import wider
 from whichwalks.cut.cuts import CONDITIONS
@@ -26,6 +27,22 @@ def around(many):
     """Over a schema with loops: one edge, and each number of edges more around so many states."""
     steps = tuple((state, "b", (state + 1) % many) for state in range(many))
     return Question.of_machine(ONE, (("n",) * many, (0,), steps, (1,)))
+
+
+def some_word(schema, chooser, size):
+    """A word with at most so many edges, chosen without order; it ends early where no edge leads on."""
+    word = (chooser.choice(schema.kinds),)
+    for _ in range(size):
+        ahead = [(label, other) for kind, label, other in schema.steps() if kind == word[-1]]
+        word += chooser.choice(ahead) if ahead else ()
+    return word
+
+
+def whole_machine(schema):
+    """The machine with all words of the schema."""
+    states = tuple(range(len(schema.kinds)))
+    steps = ((schema.kinds.index(kind), label, schema.kinds.index(other)) for kind, label, other in schema.steps())
+    return schema.kinds, states, tuple(sorted(steps)), states
 
 
 def is_let(schema, reading, by):
@@ -258,14 +275,51 @@ class Papers(Case):
         self.refused(TooMany, is_covered, one, "simple", every, "acyclic", kept=24)
         self.refused(TooMany, cover_paper, one, "simple", every, "acyclic", kept=24)
         self.refused(TooMany, is_covered, one, "simple", one, "acyclic", kept=24)
-        told = cover_paper(one, "simple", one, "acyclic")
-        self.same(told, ("beyond", ("n",) + ("b", "n") * 25, "rings", ((0, 25),)))
-        self.same(is_cover_paper(one, "simple", one, "acyclic", told), True)
-        self.same(cover_paper(one, "simple", FAR, "acyclic"), ("beyond", ("n", "b", "n"), None, ()))
+        # Also where some word, cut or as it is, shows that it is not covered: a paper is judged, but none is returned.
+        self.refused(TooMany, cover_paper, one, "simple", one, "acyclic", kept=24)
+        right = ("beyond", ("n",) + ("b", "n") * 25, "rings", ((0, 25),))
+        self.same(is_cover_paper(one, "simple", one, "acyclic", right), True)
+        self.refused(TooMany, is_covered, one, "simple", FAR, "acyclic", kept=24)
+        self.refused(TooMany, cover_paper, one, "simple", FAR, "acyclic", kept=24)
+        self.same(is_cover_paper(one, "simple", FAR, "acyclic", ("beyond", ("n", "b", "n"), None, ())), True)
         for table in ((), tuple((at, 0) for at in range(24)), tuple((at, 0) for at in range(25))):
             self.same(is_cover_paper(one, "simple", every, "acyclic", ("within", table)), False)
         # By one reading the question itself is compared, which has 24 states.
         self.same([is_covered(one, "simple", every, "simple"), is_covered(one, "acyclic", every, "walk")], [True, True])
+
+    def test_too_many_states_by_each_condition(self):
+        # What cuts leave of one long word: to tell it apart takes more states than the word itself has.
+        letters = "aababbbaabbabaaabbabbab"
+        word = ("n",) + tuple(part for letter in letters for part in (letter, "n"))
+        one = Question.of_words(BARE, (word,))
+        self.same(len(one), 24)
+        for reading in READINGS:
+            for by in READINGS:
+                conditions = asked_conditions(reading, by)
+                for other in (one, Question.of_words(BARE, ()), Question.read(BARE, "(a|b)*")):
+                    if conditions in ((), ("rings",)):
+                        self.same(is_covered(one, reading, other, by), word in other and not (conditions and other == one))
+                        self.same(cover_paper(one, reading, other, by)[0] == "within", is_covered(one, reading, other, by))
+                    else:
+                        self.refused(TooMany, wider, one, conditions, kept=24)
+                        self.refused(TooMany, is_covered, one, reading, other, by, kept=24)
+                        self.refused(TooMany, cover_paper, one, reading, other, by, kept=24)
+                        self.same(is_cover_paper(one, reading, other, by, ("beyond", word, None, ())), word not in other)
+
+    def test_too_many_states_of_some_words(self):
+        chooser = random.Random(99)
+        counted = {24: 0, "within": 0, "beyond": 0}
+        for schema in ALL:
+            every, none = Question.of_machine(schema, whole_machine(schema)), Question.of_words(schema, ())
+            for _ in range(30):
+                one = Question.of_words(schema, (some_word(schema, chooser, chooser.randrange(14, 24)),))
+                other = chooser.choice([one, every, none, every - Question.of_words(schema, words_of(schema, 1))])
+                for reading, by in (("simple", "acyclic"), ("trail", "simple"), ("walk", "acyclic"), ("walk", "walk")):
+                    told = attempt(cover_paper, one, reading, other, by)
+                    counted[told if told == 24 else told[0]] += 1
+                    self.same(told == 24, attempt(wider, one, asked_conditions(reading, by)) == 24)
+                    self.same(attempt(is_covered, one, reading, other, by), told if told == 24 else told[0] == "within")
+        self.assertTrue(all(many > 50 for many in counted.values()), counted)
 
     def test_values_of_all_sorts(self):
         for value in STRANGE + ((), 7, "within", ONE, FAR, BB, ("within",), ("beyond",)):

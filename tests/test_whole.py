@@ -3,7 +3,7 @@ import copy
 import itertools
 import random
 
-from tests.helpers import FRIENDS, FULL, MIXED, ONE, ROADS, TWICE, Case, some_graph
+from tests.helpers import FRIENDS, FULL, MIXED, ONE, ROADS, TWICE, Case, attempt, some_graph
 from tests.reckoning import some_expressions, some_machine
 from tests.test_closures import is_let
 from tests.test_cuts import TUPLES
@@ -20,7 +20,6 @@ from whichwalks.cut.cuts import CONDITIONS, cuts, reducts
 from whichwalks.cut.drawings import drawn_of, rest
 from whichwalks.cut.readings import agreement, do_agree, is_agreement, profile, widest
 from whichwalks.desk.store import Store
-from whichwalks.errors import TooMany
 from whichwalks.graph.graphs import Graph
 from whichwalks.graph.reach import reached, walk_paper
 from whichwalks.graph.ways import READINGS, is_way, pairs, way, ways
@@ -38,14 +37,6 @@ def some_values(seed, many):
             one = Question(schema, chooser.choice(expressions))
             other = Question.of_machine(schema, some_machine(schema, chooser, 4))
             yield one, other, some_graph(schema, chooser, chooser.randrange(1, 5), chooser.randrange(7))
-
-
-def attempt(call, *told):
-    """What the call returns, or the limit that it goes beyond."""
-    try:
-        return call(*told)
-    except TooMany as error:
-        return error.limit
 
 
 class Names:

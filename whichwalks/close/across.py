@@ -20,9 +20,9 @@ def cover_paper(one, reading, other, by):
     """A paper that this is so, or that it is not."""
     check_covers(one, reading, other, by)
     conditions = conditions_of(reading, by)
-    found = shortest_beyond(one, conditions, other)
-    # A word beyond is told also if the wider question has too many states.
-    return told_paper(wider(one, conditions), other) if found is None else ("beyond",) + found
+    # This comes first because it raises TooMany also where some word is beyond.
+    paper = told_paper(wider(one, conditions), other)
+    return paper if paper[0] == "within" else ("beyond",) + shortest_beyond(one, conditions, other)
 
 
 def is_cover_paper(one, reading, other, by, value):
